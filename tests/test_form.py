@@ -1,0 +1,75 @@
+"""The form of the package's files: sizes, signs, imports, and a few more rules of LANGUAGE.md."""
+
+import ast
+import unittest
+from pathlib import Path
+
+PACKAGE = Path(__file__).resolve().parent.parent / "duetickers"
+FILES = sorted(PACKAGE.rglob("*.py"))
+LIBRARY = {"math": ("gcd", "lcm", "isqrt"), "heapq": ("heappush", "heappop", "heapify")}
+TAKES_A_LIST = ("any", "all", "min", "max", "sum", "sorted")
+
+
+def nodes_of(kind):
+    """The pairs (file, node) of all nodes of this kind."""
+    return [(path.name, node) for path in FILES for node in ast.walk(ast.parse(path.read_text()))
+            if isinstance(node, kind)]
+
+
+class TestForm(unittest.TestCase):
+    def test_folder_holds_python_files_alone(self):
+        found = [path for path in PACKAGE.rglob("*") if "__pycache__" not in path.parts and not path.is_dir()]
+        self.assertEqual(sorted(found), FILES)
+        self.assertIn(PACKAGE / "__init__.py", FILES)
+
+    def test_signs_and_sizes(self):
+        for path in FILES:
+            text = path.read_text()
+            self.assertTrue(all(sign == "\n" or " " <= sign <= "~" for sign in text), path)
+            self.assertLessEqual(len(text.splitlines()), 399, path)
+            self.assertTrue(all(len(line) <= 120 for line in text.splitlines()), path)
+
+    def test_functions_are_small(self):
+        for name, node in nodes_of(ast.FunctionDef):
+            self.assertLessEqual(node.end_lineno - node.lineno + 1, 40, (name, node.name))
+
+    def test_docstrings_stand_everywhere(self):
+        for path in FILES:
+            self.assertTrue(ast.get_docstring(ast.parse(path.read_text())), path)
+
+    def test_imports(self):
+        self.assertEqual(nodes_of(ast.Import), [])
+        for name, node in nodes_of(ast.ImportFrom):
+            self.assertEqual(node.level, 0, name)
+            for word in node.names:
+                self.assertIsNone(word.asname)
+                if not node.module.startswith("duetickers."):
+                    self.assertIn(word.name, LIBRARY[node.module])
+
+    def test_no_division_and_no_floats(self):
+        self.assertEqual(nodes_of(ast.Div), [])
+        self.assertEqual([name for name, node in nodes_of(ast.Constant) if isinstance(node.value, float)], [])
+
+    def test_exponents_are_literals(self):
+        for name, node in nodes_of(ast.BinOp):
+            if isinstance(node.op, ast.Pow):
+                self.assertTrue(isinstance(node.right, ast.Constant) and 0 <= node.right.value <= 64, name)
+
+    def test_no_generator_expressions_where_lists_are_due(self):
+        for name, node in nodes_of(ast.Call):
+            if isinstance(node.func, ast.Name) and node.func.id in TAKES_A_LIST:
+                self.assertFalse([part for part in node.args if isinstance(part, ast.GeneratorExp)], name)
+
+    def test_words_that_are_not_used(self):
+        banned = ("type", "open", "input", "eval", "exec", "print", "float", "map", "filter", "object", "getattr")
+        for name, node in nodes_of(ast.Name):
+            self.assertNotIn(node.id, banned, name)
+
+    def test_is_stands_beside_constants_alone(self):
+        for name, node in nodes_of(ast.Compare):
+            if any(isinstance(sign, (ast.Is, ast.IsNot)) for sign in node.ops):
+                self.assertIsInstance(node.comparators[-1], ast.Constant, name)
+
+
+if __name__ == "__main__":
+    unittest.main()
