@@ -32,7 +32,7 @@ def need_names(names):
 
 
 def need_apart(names):
-    """Raise an error unless the names are apart."""
+    """Raise an error unless names is a list of names that are apart."""
     if not are_apart(names):
         raise Misfit("names")
 
@@ -64,7 +64,6 @@ def share_of(names):
 
 def free_names(names):
     """The fewest names with which the names are full, ascending."""
-    need_names(names)
     need_apart(names)
     # Without names, too, the empty text is gone on from.
     begun = {"": True}

@@ -73,6 +73,11 @@ class TestPapers(unittest.TestCase):
         self.assertIs(Crowded(5, 4) == Denial("crowded", 5, 4), False)
         self.assertIs(Paper("x") == Odd(), False)
 
+    def test_a_foreign_class_of_the_same_name(self):
+        for made in (Paper, Denial):
+            other = type(made.__name__, (), {"word": "a", "parts": (1,)})()
+            self.assertIs(made("a", 1).__eq__(other), False)
+
     def test_fixed(self):
         for value, wanted in (([], ()), ((), ()), ([1, [2, [3, []]]], (1, (2, (3, ())))), (([1], [2]), ((1,), (2,))),
                               ("ab", "ab"), (5, 5), (None, None), (True, True), ([True, 1.5], (True, 1.5)),
