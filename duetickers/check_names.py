@@ -1,16 +1,16 @@
 """Whether a paper about names is right."""
 
 from duetickers.checks import is_integer, is_name, is_row
-from duetickers.names import are_apart, need_lengths, sum_of_shares
+from duetickers.names import Crowded, Names, are_apart, need_lengths, sum_of_shares
 from duetickers.papers import is_made_by
 
 
 def shows_lengths(lengths, value):
     """Whether value is right Names of the lengths, or the right Crowded."""
     need_lengths(lengths)
-    if is_made_by(value, "Names"):
+    if isinstance(value, Names) and is_made_by(value, "Names"):
         return are_names_of(value.names, lengths)
-    if is_made_by(value, "Crowded"):
+    if isinstance(value, Crowded) and is_made_by(value, "Crowded"):
         return is_crowd_of(value.up, value.down, lengths)
     return False
 

@@ -1,7 +1,12 @@
 """What kind of value something is: each check takes any value."""
 
+from duetickers.errors import BadNumber
+
 MOST_SIGNS = 60
 MOST_PART = 1000000
+MOST_DIGITS = 140
+# How far from 0 the numbers of runs and puzzles may be.
+BOUND = 10 ** 18
 
 
 def is_integer(value):
@@ -34,3 +39,18 @@ def is_name(value):
 def is_pair(value):
     """Whether value is a list or tuple of two integers from 1 to 1,000,000."""
     return is_row(value, 2, 2) and all([is_within(part, 1, MOST_PART) for part in value])
+
+
+def need_within(value, least, most, part):
+    """Raise an error that names the part unless value is an integer from least to most."""
+    if not is_within(value, least, most):
+        raise BadNumber(part)
+
+
+def integer_in(item):
+    """The integer that this item of a text writes in its one form; None if it writes none."""
+    digits = item[1:] if item.startswith("-") else item
+    if not 1 <= len(digits) <= MOST_DIGITS or digits.strip("0123456789") != "":
+        return None
+    number = int(item)
+    return number if str(number) == item else None

@@ -1,7 +1,7 @@
 """The programs of a tongue in their order: how many there are, and which one has which number."""
 
-from duetickers.checks import is_within
-from duetickers.errors import BadNumber, Misfit, TooMany
+from duetickers.checks import need_within
+from duetickers.errors import Misfit, TooMany
 from duetickers.programs import length_of, names_in
 from duetickers.tongues import Tongue, need_tongue
 
@@ -9,12 +9,6 @@ MOST_LENGTH = 400
 MOST_LISTED_LENGTH = 40
 MOST_NUMBER = 10 ** 30
 MOST_PROGRAMS = 2000
-
-
-def need_number(value, most, part):
-    """Raise an error unless value is an integer from 0 to most."""
-    if not is_within(value, 0, most):
-        raise BadNumber(part)
 
 
 def counts_to(tongue, most):
@@ -72,17 +66,29 @@ def numbered_program(ordered, counts, number):
     return ranked_program(ordered, counts, length, number)
 
 
+def rank_of(tongue, counts, program):
+    """How many programs of its length stand ahead of the program, if counts goes as far as its length."""
+    ordered = ordered_words(tongue)
+    names = names_in(tongue, program)
+    left = len("".join(names))
+    rank = 0
+    for own in names:
+        rank += sum([many_behind(counts, name, word, left) for name, word in ordered if name < own])
+        left -= len(own)
+    return rank
+
+
 def how_many(tongue, length):
     """How many programs have this length."""
     need_tongue(tongue)
-    need_number(length, MOST_LENGTH, "length")
+    need_within(length, 0, MOST_LENGTH, "length")
     return counts_to(tongue, length)[length]
 
 
 def program_at(tongue, number):
     """The program with this number."""
     need_tongue(tongue)
-    need_number(number, MOST_NUMBER, "number")
+    need_within(number, 0, MOST_NUMBER, "number")
     return numbered_program(ordered_words(tongue), counts_to(tongue, MOST_LENGTH), number)
 
 
@@ -92,18 +98,13 @@ def number_of(tongue, program):
     if left > MOST_LENGTH:
         raise Misfit("program")
     counts = counts_to(tongue, left)
-    ordered = ordered_words(tongue)
-    number = sum(counts[:left])
-    for own in names_in(tongue, program):
-        number += sum([many_behind(counts, name, word, left) for name, word in ordered if name < own])
-        left -= len(own)
-    return number
+    return sum(counts[:left]) + rank_of(tongue, counts, program)
 
 
 def programs_of(tongue, length):
     """All programs of a length, in their order."""
     need_tongue(tongue)
-    need_number(length, MOST_LISTED_LENGTH, "length")
+    need_within(length, 0, MOST_LISTED_LENGTH, "length")
     counts = counts_to(tongue, length)
     if counts[length] > MOST_PROGRAMS:
         raise TooMany("programs", MOST_PROGRAMS)
@@ -114,7 +115,7 @@ def programs_of(tongue, length):
 def first_programs(tongue, many):
     """The programs numbered from 0 to many less 1, in their order."""
     need_tongue(tongue)
-    need_number(many, MOST_PROGRAMS, "many")
+    need_within(many, 0, MOST_PROGRAMS, "many")
     ordered = ordered_words(tongue)
     counts = counts_to(tongue, MOST_LENGTH)
     for number in range(many):

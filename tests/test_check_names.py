@@ -129,6 +129,10 @@ class TestOtherValues(unittest.TestCase):
         crowded = type("Crowded", (), {"word": "crowded", "parts": (3, 2), "up": 3, "down": 2})()
         self.assertIs(shows_lengths([1], names), False)
         self.assertIs(shows_lengths([1, 1, 1], crowded), False)
+        names = type("Names", (Paper,), {"names": ("0",)})("names", ("0",))
+        crowded = type("Crowded", (Denial,), {"up": 3, "down": 2})("crowded", 3, 2)
+        self.assertIs(shows_lengths([1], names), False)
+        self.assertIs(shows_lengths([1, 1, 1], crowded), False)
 
     def test_no_papers(self):
         for value in NO_INTEGERS + NO_LISTS + (("0",), ["0"], ("names", ("0",)), (3, 2), Names, Crowded, Odd()):

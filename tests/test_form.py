@@ -1,6 +1,7 @@
 """The form of the package's files: sizes, signs, imports, and a few more rules of LANGUAGE.md."""
 
 import ast
+import builtins
 import unittest
 from pathlib import Path
 
@@ -64,6 +65,47 @@ class TestForm(unittest.TestCase):
         banned = ("type", "open", "input", "eval", "exec", "print", "float", "map", "filter", "object", "getattr")
         for name, node in nodes_of(ast.Name):
             self.assertNotIn(node.id, banned, name)
+
+    def test_names_of_imports_and_builtins_are_not_given_again(self):
+        for path in FILES:
+            tree = ast.parse(path.read_text())
+            taken = set(dir(builtins)) | {name.name for node in ast.walk(tree) if isinstance(node, ast.ImportFrom)
+                                          for name in node.names}
+            taken |= {node.name for node in tree.body if isinstance(node, ast.ClassDef)}
+            given = {node.arg for node in ast.walk(tree) if isinstance(node, ast.arg)}
+            given |= {node.id for node in ast.walk(tree) if isinstance(node, ast.Name) and isinstance(node.ctx, ast.Store)}
+            given |= {node.name for node in tree.body if isinstance(node, ast.FunctionDef)}
+            self.assertEqual(given & taken, set(), path.name)
+
+    def test_imports_are_used_and_come_from_where_they_are_defined(self):
+        for path in FILES:
+            tree = ast.parse(path.read_text())
+            used = {node.id for node in ast.walk(tree) if isinstance(node, ast.Name)}
+            for node in ast.walk(tree):
+                if isinstance(node, ast.ImportFrom):
+                    self.assertEqual([name.name for name in node.names if name.name not in used], [], path.name)
+                    if node.module.startswith("duetickers."):
+                        source = (PACKAGE / (node.module.split(".")[1] + ".py")).read_text()
+                        for name in node.names:
+                            self.assertRegex(source, f"(?m)^((def|class) {name.name}[(:]|{name.name} = )")
+
+    def test_generators_are_iterated_at_once(self):
+        made = {node.name for name, node in nodes_of(ast.FunctionDef)
+                if any(isinstance(part, (ast.Yield, ast.YieldFrom)) for part in ast.walk(node))}
+        names = [node.name for name, node in nodes_of(ast.FunctionDef)]
+        self.assertEqual([name for name in made if names.count(name) > 1], [])
+        iterated = [node.iter for name, node in nodes_of((ast.For, ast.comprehension))]
+        iterated += [node.value for name, node in nodes_of(ast.YieldFrom)]
+        iterated += [node.args[0] for name, node in nodes_of(ast.Call)
+                     if isinstance(node.func, ast.Name) and node.func.id in ("list", "tuple")]
+        called = [node for name, node in nodes_of(ast.Call) if isinstance(node.func, ast.Name) and node.func.id in made]
+        self.assertEqual(len(called), len([node for node in iterated if isinstance(node, ast.Call)
+                                           and isinstance(node.func, ast.Name) and node.func.id in made]))
+
+    def test_strings(self):
+        for name, node in nodes_of(ast.Constant):
+            if isinstance(node.value, str):
+                self.assertNotIn("%", node.value, name)
 
     def test_is_stands_beside_constants_alone(self):
         for name, node in nodes_of(ast.Compare):
