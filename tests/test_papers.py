@@ -2,9 +2,23 @@
 
 import unittest
 
+from itertools import product
+
+from duetickers.factors import Crowd, Kept
+from duetickers.finders import Found, NotYet
 from duetickers.names import Crowded, Names
 from duetickers.papers import Denial, Paper, fixed
+from duetickers.puzzles import Parted, Same
 from tests.told import Odd
+
+# All classes of papers that the program has, each with what stands above it, its module and its parameters.
+CLASSES = (
+    (Names, Paper, "names", ("names",)), (Crowded, Denial, "names", ("up", "down")), (Same, Paper, "puzzles", ("most",)),
+    (Parted, Denial, "puzzles", ("given", "answer")), (Kept, Paper, "factors", ("up", "down")),
+    (Crowd, Denial, "factors", ("tick", "many")), (Found, Paper, "finders", ("answer", "program", "step", "tick")),
+    (NotYet, Denial, "finders", ("tick",)),
+)
+VALUES = (0, True, None, "say", [1, [2, []]], (3, [4]), {"a": [1]}, 1.5, 10 ** 400, [[["up"]]])
 
 
 class TestPapers(unittest.TestCase):
@@ -111,6 +125,52 @@ class TestPapers(unittest.TestCase):
         for made in (Paper, Denial):
             self.assertIn("__eq__", vars(made))
             self.assertIn("__init__", vars(made))
+
+
+class TestAllClasses(unittest.TestCase):
+    def test_where_they_stand(self):
+        for made, above, module, fields in CLASSES:
+            self.assertEqual((made.__bases__, made.__module__), ((above,), f"duetickers.{module}"))
+        self.assertEqual(set(Paper.__subclasses__()) & {made for made, *_ in CLASSES},
+                         {made for made, above, *_ in CLASSES if above == Paper})
+
+    def test_any_parts_by_place_and_by_name(self):
+        for made, above, module, fields in CLASSES:
+            for parts in product(VALUES, repeat=min(len(fields), 2)):
+                parts = (parts * 2)[:len(fields)]
+                wanted = tuple(map(fixed, parts))
+                for paper in (made(*parts), made(**dict(reversed(list(zip(fields, parts)))))):
+                    self.assertEqual(tuple(getattr(paper, field) for field in fields), wanted)
+                    self.assertEqual((paper.parts, paper.word), (wanted, made.__name__.lower()))
+                    self.assertIs(type(paper.parts), tuple)
+                    self.assertIs(bool(paper), above == Paper)
+
+    def test_what_is_passed_changes_behind(self):
+        for made, above, module, fields in CLASSES:
+            rows = [[1, [2]] for _ in fields]
+            paper = made(*rows)
+            for row in rows:
+                row[1].append(3)
+                row.append(4)
+            self.assertEqual(paper.parts, ((1, (2,)),) * len(fields))
+            self.assertEqual(rows, [[1, [2, 3], 4]] * len(fields))
+
+    def test_equal_to_papers_of_their_own_class_alone(self):
+        papers = [made(*[5] * len(fields)) for made, above, module, fields in CLASSES]
+        bases = [base(paper.word, *paper.parts) for paper in papers for base in (Paper, Denial)]
+        for place, one in enumerate(papers):
+            for other_place, other in enumerate(papers + bases):
+                self.assertIs(one == other, place == other_place)
+                self.assertIs(one != other, place != other_place)
+            for change in range(len(one.parts)):
+                parts = list(one.parts)
+                parts[change] = 6
+                self.assertIs(one == CLASSES[place][0](*parts), False)
+
+    def test_wrong_numbers_of_parts(self):
+        for made, above, module, fields in CLASSES:
+            self.assertRaises(TypeError, made, *[1] * (len(fields) + 1))
+            self.assertRaises(TypeError, made, *[1] * (len(fields) - 1))
 
 
 if __name__ == "__main__":

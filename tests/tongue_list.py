@@ -40,3 +40,26 @@ def slow_programs(tongue, length):
     """All programs of this length, in their order, by all texts."""
     found = [slow_program(tongue, "".join(signs)) for signs in product("01", repeat=length)]
     return tuple(program for program in found if program is not None)
+
+
+def texts_within(tongue, most):
+    """The texts of all programs of at most so many signs, each with its program, by adding word to word."""
+    found, begun = {}, [("", ())]
+    while begun:
+        text, program = begun.pop()
+        for word, name in zip(WORDS, tongue.names):
+            if len(text + name) > most:
+                continue
+            if word == "end":
+                found[text + name] = program
+            else:
+                begun.append((text + name, program + (word,)))
+    return found
+
+
+def slow_steps(tongue, most):
+    """All steps of all programs due by 2 ** most, as pairs, by one sorted list of dues, lengths and texts."""
+    dues = sorted((step << len(text), len(text), text, step, program)
+                  for text, program in texts_within(tongue, most).items()
+                  for step in range(1, (1 << most - len(text)) + 1))
+    return [(program, step) for due, length, text, step, program in dues]

@@ -1,0 +1,88 @@
+"""The finder: steps of many programs in the order of dues, until one of them says a right answer."""
+
+from duetickers.checks import BOUND, is_row, need_within
+from duetickers.dues import pairs_to
+from duetickers.errors import BadProgram, Misfit
+from duetickers.factors import need_factors
+from duetickers.papers import Denial, Paper
+from duetickers.programs import is_program
+from duetickers.puzzles import holds, need_puzzle
+from duetickers.runs import Run
+from duetickers.tongues import need_tongue
+from duetickers.wholes import pairs_in
+
+MOST_AMONG = 40
+MOST_TICKS = 20000
+
+
+class Found(Paper):
+    """An answer that was found, the program that said it, and the step and the tick that found it."""
+
+    def __init__(self, answer, program, step, tick):
+        Paper.__init__(self, "found", answer, program, step, tick)
+        self.answer, self.program, self.step, self.tick = self.parts
+
+
+class NotYet(Denial):
+    """Nothing was found up to this tick."""
+
+    def __init__(self, tick):
+        Denial.__init__(self, "notyet", tick)
+        self.tick = self.parts[0]
+
+
+class Trial:
+    """A program that tries to solve a puzzle: its run, and how many steps of a check are still to come."""
+
+    def __init__(self, program, puzzle, given):
+        self.run = Run(program, given)
+        self.puzzle = puzzle
+        self.left = 0
+        self.answer = None
+
+    def advance(self):
+        """Make a step, of the check or of the run; whether an answer is found with it."""
+        if self.left > 0:
+            self.left -= 1
+            return self.left == 0 and holds(self.puzzle, self.run.given, self.answer)
+        self.answer = self.run.advance()
+        if self.answer is not None:
+            self.left = self.puzzle.cost
+        return False
+
+
+def need_question(puzzle, given, most):
+    """Raise an error unless these are a Puzzle, an integer to give, and a number of ticks."""
+    need_puzzle(puzzle, "puzzle")
+    need_within(given, -BOUND, BOUND, "given")
+    need_within(most, 1, MOST_TICKS, "most")
+
+
+def found_at(trials, pairs):
+    """The Found of the first answer, or a NotYet; each pair tells for a tick the key of a trial and its step."""
+    for place, (key, step) in enumerate(pairs):
+        trial = trials[key]
+        if trial.advance():
+            return Found(trial.answer, trial.run.program, step, place + 1)
+    return NotYet(len(pairs))
+
+
+def find(tongue, puzzle, given, most):
+    """The Found of the first answer among all programs of a tongue, by the tick most; otherwise a NotYet."""
+    need_tongue(tongue)
+    need_question(puzzle, given, most)
+    pairs = list(pairs_in(tongue, most))
+    trials = {program: Trial(program, puzzle, given) for program, step in pairs if step == 1}
+    return found_at(trials, pairs)
+
+
+def find_among(programs, factors, puzzle, given, most):
+    """The Found of the first answer among these programs, by the tick most; otherwise a NotYet."""
+    if not is_row(programs, 1, MOST_AMONG) or not all([is_program(program) for program in programs]):
+        raise BadProgram("programs")
+    need_factors(factors)
+    need_question(puzzle, given, most)
+    if len(programs) != len(factors):
+        raise Misfit("factors")
+    trials = {place: Trial(program, puzzle, given) for place, program in enumerate(programs)}
+    return found_at(trials, pairs_to(factors, most))
