@@ -31,7 +31,7 @@ class Puzzle:
         return isinstance(other, Puzzle) and self.text == other.text
 
     def __str__(self):
-        return self.text
+        return str(self.text)
 
 
 class Same(Paper):

@@ -17,6 +17,25 @@ def nodes_of(kind):
             if isinstance(node, kind)]
 
 
+def expression_of(text):
+    """The node of an expression."""
+    return ast.parse(text, mode="eval").body
+
+
+def is_literal_string(node):
+    """Whether the node is a string that is written out."""
+    return isinstance(node, ast.Constant) and isinstance(node.value, str)
+
+
+def is_surely_a_string(node):
+    """Whether rule L28 lets a text return this: a string, an f-string, str(..), repr(..), or a literal's join."""
+    if isinstance(node, ast.Call) and isinstance(node.func, ast.Name):
+        return node.func.id in ("str", "repr")
+    if isinstance(node, ast.Call) and isinstance(node.func, ast.Attribute):
+        return node.func.attr == "join" and is_literal_string(node.func.value)
+    return is_literal_string(node) or isinstance(node, ast.JoinedStr)
+
+
 class TestForm(unittest.TestCase):
     def test_folder_holds_python_files_alone(self):
         found = [path for path in PACKAGE.rglob("*") if "__pycache__" not in path.parts and not path.is_dir()]
@@ -104,8 +123,25 @@ class TestForm(unittest.TestCase):
 
     def test_strings(self):
         for name, node in nodes_of(ast.Constant):
-            if isinstance(node.value, str):
+            if is_literal_string(node):
                 self.assertNotIn("%", node.value, name)
+
+    def test_returns_of_texts_are_surely_strings(self):
+        found = [(name, node) for name, node in nodes_of(ast.FunctionDef) if node.name in ("__str__", "__repr__")]
+        self.assertGreaterEqual(len(found), 3)
+        for name, node in found:
+            self.assertIsInstance(node.body[-1], ast.Return, name)
+            for part in ast.walk(node):
+                if isinstance(part, ast.Return):
+                    self.assertTrue(is_surely_a_string(part.value), (name, part.lineno))
+
+    def test_what_is_surely_a_string(self):
+        for text in ('"a"', 'f"{a}"', 'str(a.text)', 'repr(a)', '" ".join(a)', 'f"{a} " "b"'):
+            self.assertIs(is_surely_a_string(expression_of(text)), True, text)
+        for text in ("self.text", "text", "5", "None", 'b"a"', "told(a)", "self.join(a)", "a.join(b)", '"a" + "b"',
+                     '"a".strip()', '("a", "b")', '"a" if a else "b"', "a.str(b)", 'b"".join(a)'):
+            self.assertIs(is_surely_a_string(expression_of(text)), False, text)
+        self.assertIs(is_surely_a_string(None), False)
 
     def test_is_stands_beside_constants_alone(self):
         for name, node in nodes_of(ast.Compare):
