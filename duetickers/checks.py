@@ -26,6 +26,11 @@ def is_row(value, least, most):
     return isinstance(value, (list, tuple)) and least <= len(value) <= most
 
 
+def is_row_within(value, many, least, most):
+    """Whether value is a list or tuple of 1 to many integers from least to most; None stands for no bound."""
+    return is_row(value, 1, many) and all([is_within(number, least, most) for number in value])
+
+
 def is_signs(value, least, most):
     """Whether value is a string of least to most signs 0 and 1."""
     return isinstance(value, str) and least <= len(value) <= most and value.strip("01") == ""

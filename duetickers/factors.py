@@ -1,6 +1,6 @@
 """Factors: how many steps are due by a tick, and whether there are never more than ticks."""
 
-from duetickers.checks import is_pair, is_row, is_within, need_within
+from duetickers.checks import is_pair, is_row, is_row_within, need_within
 from duetickers.errors import BadFactor, BadNumber, TooMany
 from duetickers.papers import Denial, Paper
 from duetickers.ratios import common_multiple, reduced
@@ -27,9 +27,14 @@ class Crowd(Denial):
         self.tick, self.many = self.parts
 
 
+def are_pairs(value):
+    """Whether value is a list of 1 to 40 pairs of integers from 1 to 1,000,000."""
+    return is_row(value, 1, MOST_FACTORS) and all([is_pair(pair) for pair in value])
+
+
 def need_factors(factors):
-    """Raise an error unless factors is a list of 1 to 40 pairs of integers from 1 to 1,000,000."""
-    if not is_row(factors, 1, MOST_FACTORS) or not all([is_pair(factor) for factor in factors]):
+    """Raise an error unless factors are factors."""
+    if not are_pairs(factors):
         raise BadFactor("factors")
 
 
@@ -59,7 +64,7 @@ def due_by(factors, tick):
 
 def factors_of(lengths):
     """The factors 2 to the power of these lengths."""
-    if not is_row(lengths, 1, MOST_FACTORS) or not all([is_within(length, 1, MOST_LENGTH) for length in lengths]):
+    if not is_row_within(lengths, MOST_FACTORS, 1, MOST_LENGTH):
         raise BadNumber("lengths")
     return tuple([(1 << length, 1) for length in lengths])
 
@@ -77,8 +82,13 @@ def scaled(factors):
 def judged_factors(factors):
     """The Kept of the sum of all shares; a Crowd if this is above 1."""
     need_factors(factors)
+    return judged_for(factors, 1)
+
+
+def judged_for(factors, hands):
+    """The Kept of the sum of all shares; a Crowd if this is above so many hands, each of which makes a step a tick."""
     up, down = sum_of_all(factors)
-    if up <= down:
+    if up <= hands * down:
         return Kept(up, down)
     # By a tick that all ups divide nothing is rounded, so the steps due are the tick times the sum.
     tick = common_multiple([reduced(*factor)[0] for factor in factors])
