@@ -1,6 +1,6 @@
 """What kind of value something is: each check takes any value."""
 
-from duetickers.errors import BadNumber
+from duetickers.errors import BadNumber, BadText
 
 MOST_SIGNS = 60
 MOST_PART = 1000000
@@ -50,6 +50,13 @@ def need_within(value, least, most, part):
     """Raise an error that names the part unless value is an integer from least to most."""
     if not is_within(value, least, most):
         raise BadNumber(part)
+
+
+def items_of(text):
+    """The items of a text, with single blanks between; an error for what is no string."""
+    if not isinstance(text, str):
+        raise BadText(0, 0)
+    return text.split(" ")
 
 
 def integer_in(item):

@@ -1,6 +1,6 @@
 """Dealers: shares that are dealt anew to who won."""
 
-from duetickers.checks import MOST_PART, integer_in, is_within, need_within
+from duetickers.checks import MOST_PART, integer_in, is_within, items_of, need_within
 from duetickers.errors import BadDealer, BadText, TooMany
 from duetickers.factors import MOST_FACTORS, are_pairs, sum_of_all
 from duetickers.ratios import reduced
@@ -53,9 +53,7 @@ class Dealer:
     @staticmethod
     def read(text):
         """The dealer with this text."""
-        if not isinstance(text, str):
-            raise BadText(0, 0)
-        items = text.split(" ")
+        items = items_of(text)
         at = misfit_at(items)
         if at is not None:
             raise BadText(0, at)

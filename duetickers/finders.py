@@ -51,38 +51,57 @@ class Trial:
         return False
 
 
-def need_question(puzzle, given, most):
-    """Raise an error unless these are a Puzzle, an integer to give, and a number of ticks."""
-    need_puzzle(puzzle, "puzzle")
+def need_programs(programs):
+    """Raise an error unless programs is a list of 1 to 40 programs."""
+    if not is_row(programs, 1, MOST_AMONG) or not all([is_program(program) for program in programs]):
+        raise BadProgram("programs")
+
+
+def need_numbers(given, most):
+    """Raise an error unless these are an integer to give, and a number of ticks."""
     need_within(given, -BOUND, BOUND, "given")
     need_within(most, 1, MOST_TICKS, "most")
 
 
-def found_at(trials, pairs):
-    """The Found of the first answer, or a NotYet; each pair tells for a tick the key of a trial and its step."""
-    for place, (key, step) in enumerate(pairs):
+def begin_trials(trials, pairs, puzzle, given):
+    """Add to the trials those of all programs whose first step is among the pairs (program, step)."""
+    for program, step in pairs:
+        if step == 1:
+            trials[program] = Trial(program, puzzle, given)
+
+
+def found_at(trials, pairs, ahead):
+    """The Found of the first answer, or a NotYet; for each tick behind those ahead a pair tells a key and a step."""
+    for tick, (key, step) in enumerate(pairs, start=ahead + 1):
         trial = trials[key]
         if trial.advance():
-            return Found(trial.answer, trial.run.program, step, place + 1)
-    return NotYet(len(pairs))
+            return Found(trial.answer, trial.run.program, step, tick)
+    return NotYet(ahead + len(pairs))
+
+
+def found_among(programs, pairs, puzzle, given):
+    """The Found of the first answer among these programs, or a NotYet; a pair tells the place of each tick's step."""
+    trials = {place: Trial(program, puzzle, given) for place, program in enumerate(programs)}
+    return found_at(trials, pairs, 0)
 
 
 def find(tongue, puzzle, given, most):
     """The Found of the first answer among all programs of a tongue, by the tick most; otherwise a NotYet."""
     need_tongue(tongue)
-    need_question(puzzle, given, most)
+    need_puzzle(puzzle, "puzzle")
+    need_numbers(given, most)
     pairs = list(pairs_in(tongue, most))
-    trials = {program: Trial(program, puzzle, given) for program, step in pairs if step == 1}
-    return found_at(trials, pairs)
+    trials = {}
+    begin_trials(trials, pairs, puzzle, given)
+    return found_at(trials, pairs, 0)
 
 
 def find_among(programs, factors, puzzle, given, most):
     """The Found of the first answer among these programs, by the tick most; otherwise a NotYet."""
-    if not is_row(programs, 1, MOST_AMONG) or not all([is_program(program) for program in programs]):
-        raise BadProgram("programs")
+    need_programs(programs)
     need_factors(factors)
-    need_question(puzzle, given, most)
+    need_puzzle(puzzle, "puzzle")
+    need_numbers(given, most)
     if len(programs) != len(factors):
         raise Misfit("factors")
-    trials = {place: Trial(program, puzzle, given) for place, program in enumerate(programs)}
-    return found_at(trials, pairs_to(factors, most))
+    return found_among(programs, pairs_to(factors, most), puzzle, given)

@@ -1,6 +1,6 @@
 """Puzzles: checks that tell which answers to a given number are right."""
 
-from duetickers.checks import BOUND, integer_in, is_integer, is_within, need_within
+from duetickers.checks import BOUND, integer_in, is_integer, is_within, items_of, need_within
 from duetickers.errors import BadPuzzle, BadText, TooMany
 from duetickers.papers import Denial, Paper
 
@@ -16,9 +16,7 @@ class Puzzle:
     """A check, as a text of items that take from a pile and put on it."""
 
     def __init__(self, text):
-        if not isinstance(text, str):
-            raise BadText(0, 0)
-        parts = text.split(" ")
+        parts = items_of(text)
         place = misfit_in(parts)
         if place is not None:
             raise BadText(0, place)

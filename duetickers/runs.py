@@ -1,6 +1,6 @@
 """Runs: a program makes its steps, one by one, and says things."""
 
-from duetickers.checks import BOUND, integer_in, is_within, need_within
+from duetickers.checks import BOUND, integer_in, is_within, items_of, need_within
 from duetickers.errors import BadText
 from duetickers.programs import MOST_WORDS, need_program
 from duetickers.tongues import Tongue
@@ -65,9 +65,7 @@ class Run:
     @staticmethod
     def read(text):
         """The run with this text."""
-        if not isinstance(text, str):
-            raise BadText(0, 0)
-        parts = text.split(" ")
+        parts = items_of(text)
         many = words_ahead(parts)
         behind = parts[many:]
         place = misfit_behind(behind, many)

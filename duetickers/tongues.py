@@ -1,6 +1,6 @@
 """Tongues: names for the eight words, none of which begins another one."""
 
-from duetickers.checks import is_row, is_signs
+from duetickers.checks import is_row, is_signs, items_of
 from duetickers.errors import BadName, BadText, BadTongue
 from duetickers.names import are_apart
 
@@ -33,9 +33,7 @@ class Tongue:
     @staticmethod
     def read(text):
         """The tongue with this text."""
-        if not isinstance(text, str):
-            raise BadText(0, 0)
-        items = text.split(" ")
+        items = items_of(text)
         place = place_of_misfit(items)
         if place is not None:
             raise BadText(0, place)

@@ -128,7 +128,7 @@ class TestForm(unittest.TestCase):
 
     def test_returns_of_texts_are_surely_strings(self):
         found = [(name, node) for name, node in nodes_of(ast.FunctionDef) if node.name in ("__str__", "__repr__")]
-        self.assertGreaterEqual(len(found), 4)
+        self.assertGreaterEqual(len(found), 5)
         for name, node in found:
             self.assertIsInstance(node.body[-1], ast.Return, name)
             for part in ast.walk(node):
